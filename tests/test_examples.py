@@ -1,0 +1,55 @@
+"""The examples of the document, a test for each block."""
+
+import unittest
+
+from asking import Asking
+
+from onetrain.errors import BadCount, NoCrossing, RingRoad
+from onetrain.places import Place, corner, distance, key, step
+from onetrain.trees import Road, Tree
+
+
+def fork():
+    return Tree(4, [Road(0, 1, 3), Road(0, 2, 2), Road(3, 0, 4)])
+
+
+class TreeExamples(Asking, unittest.TestCase):
+    def test_ring_road(self):
+        self.refuses(RingRoad, {"road": 1}, Tree, 3, [Road(0, 1, 1), Road(1, 0, 2)])
+
+    def test_no_crossing(self):
+        self.refuses(NoCrossing, {"crossing": 2}, Tree, 2, [Road(0, 2, 1)])
+
+
+class PlaceExamples(Asking, unittest.TestCase):
+    def test_lowest_terms(self):
+        half = Place(0, 2, 4)
+        self.assertEqual((half.road, half.number, half.parts), (0, 1, 2))
+
+    def test_no_parts(self):
+        self.refuses(BadCount, {"what": "parts", "count": 0}, Place, 0, 1, 0)
+
+    def test_key(self):
+        middle = key(fork(), Place(2, 4, 1))
+        self.assertEqual((middle.road, middle.number, middle.parts), (0, 0, 1))
+
+    def test_corner(self):
+        end = corner(fork(), 3)
+        self.assertEqual((end.road, end.number, end.parts), (2, 0, 1))
+
+    def test_distance_of_whole_places(self):
+        self.assertEqual(distance(fork(), Place(0, 2, 1), Place(2, 3, 1)), (3, 1))
+
+    def test_distance_of_fractions(self):
+        self.assertEqual(distance(fork(), Place(0, 1, 2), Place(1, 1, 3)), (5, 6))
+
+    def test_step(self):
+        there = step(fork(), Place(0, 2, 1), Place(1, 2, 1), 3)
+        self.assertEqual((there.road, there.number, there.parts), (1, 1, 1))
+
+    def test_negative_steps(self):
+        self.refuses(BadCount, {"what": "steps", "count": -1}, step, fork(), Place(0, 2, 1), Place(1, 2, 1), -1)
+
+
+if __name__ == "__main__":
+    unittest.main()

@@ -1,0 +1,61 @@
+"""The interface: names, parameters in order, and the file that defines each."""
+
+import importlib
+import inspect
+import unittest
+
+INTERFACE = {
+    "errors": {
+        "TrainError": None,
+        "BadCount": ["what", "count"],
+        "NoCrossing": ["crossing"],
+        "RingRoad": ["road"],
+        "NoRoad": ["road"],
+        "OffRoad": ["road"],
+        "NotWhole": ["march"],
+        "Wide": ["count"],
+        "OtherTree": None,
+        "NoName": ["name"],
+        "NoRow": ["name"],
+        "NoBack": None,
+        "BadRow": ["number"],
+        "BadText": ["place"],
+    },
+    "trees": {"Road": ["a", "b", "length"], "Tree": ["crossings", "roads"]},
+    "places": {
+        "Place": ["road", "number", "parts"],
+        "key": ["tree", "place"],
+        "corner": ["tree", "crossing"],
+        "distance": ["tree", "one", "other"],
+        "step": ["tree", "place", "goal", "steps"],
+    },
+}
+
+
+def each_name():
+    for file, names in INTERFACE.items():
+        module = importlib.import_module("onetrain." + file)
+        for name, parameters in names.items():
+            yield module, name, parameters
+
+
+class Interface(unittest.TestCase):
+    def test_each_name_is_defined_in_its_file(self):
+        for module, name, _ in each_name():
+            with self.subTest(name):
+                found = getattr(module, name)
+                self.assertEqual((found.__module__, found.__name__), (module.__name__, name))
+
+    def test_parameters_in_order_each_also_by_keyword(self):
+        for module, name, parameters in each_name():
+            if parameters is not None:
+                with self.subTest(name):
+                    found = inspect.signature(getattr(module, name)).parameters.values()
+                    self.assertEqual([one.name for one in found], parameters)
+                    for one in found:
+                        self.assertIs(one.kind, inspect.Parameter.POSITIONAL_OR_KEYWORD)
+                        self.assertIs(one.default, inspect.Parameter.empty)
+
+
+if __name__ == "__main__":
+    unittest.main()
