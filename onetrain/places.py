@@ -66,6 +66,17 @@ def distance(tree, one, other):
     return (top // shared, parts // shared)
 
 
+def steps_between(tree, one, other):
+    """Return the distance between two whole places."""
+    return distance(tree, one, other)[0]
+
+
+def shared_steps(tree, start, one, other):
+    """Return how many steps the paths from a whole place to two others have in common."""
+    both = steps_between(tree, start, one) + steps_between(tree, start, other)
+    return (both - steps_between(tree, one, other)) // 2
+
+
 def step(tree, place, goal, steps):
     """Return the key of the place that is `steps` steps from `place` towards `goal`, at most at `goal`."""
     check_place(tree, place)

@@ -1,6 +1,11 @@
-"""What several test files ask in the same way."""
+"""What several test files ask and make in the same way."""
 
 from fractions import Fraction
+
+from onetrain.doings import Stretch
+from onetrain.marches import March, Row
+from onetrain.places import Place
+from onetrain.trees import Road, Tree
 
 
 class Asking:
@@ -20,6 +25,42 @@ class Asking:
 def told(place):
     """A place as (road, fraction)."""
     return (place.road, Fraction(place.number, place.parts))
+
+
+def place_of(name):
+    """The place of a pair (road, fraction)."""
+    road, where = name
+    return Place(road, where.numerator, where.denominator)
+
+
+def tree_of(roads):
+    """A tree of roads (a, b, length)."""
+    return Tree(len(roads) + 1, [Road(*road) for road in roads])
+
+
+def march_of(road, number, steps):
+    return March(Place(road, number, 1), steps)
+
+
+def row_of(roads, marches):
+    """A row of marches (road, number, steps) on a tree of roads (a, b, length)."""
+    return Row(tree_of(roads), [march_of(*march) for march in marches])
+
+
+def plain(stretches):
+    """Stretches as rows (road, least, greatest, first, last), with pairs (road, fraction) for places."""
+    return [
+        (stretch.road, stretch.least, stretch.greatest, told(stretch.first), told(stretch.last))
+        for stretch in stretches
+    ]
+
+
+def stretches_of(rows):
+    """The stretches of such rows."""
+    return [
+        Stretch(road, least, greatest, place_of(first), place_of(last))
+        for road, least, greatest, first, last in rows
+    ]
 
 
 class Everything:

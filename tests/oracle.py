@@ -1,4 +1,4 @@
-"""A slow second way to find distances and steps: counting single small steps.
+"""A slow second way to find distances, steps and all that a row does: by counting single small steps.
 
 Each road is cut into pieces of 1 / parts steps, and a search over the ends of
 the pieces counts them. It shares no code with the package.
@@ -54,6 +54,108 @@ class Net:
                 return spot
             spot, = nearer
         return spot
+
+    def moved(self, goal, steps):
+        """Where so many small steps towards the goal lead from each point."""
+        found = {}
+        way = []
+        waiting = [(goal, 0)]
+        while waiting:
+            spot, far = waiting.pop()
+            del way[far:]
+            found[spot] = (way + [spot])[max(0, far - steps)]
+            waiting.extend((near, far + 1) for near in self.beside[spot] if near not in way[-1:])
+            way.append(spot)
+        return found
+
+    def images(self, marches):
+        """Where marches (road, number, steps), one after the other, move each point."""
+        found = {spot: spot for spot in self.beside}
+        for road, number, steps in marches:
+            moved = self.moved(self.of(road, Fraction(number)), steps * self.parts)
+            found = {spot: moved[image] for spot, image in found.items()}
+        return found
+
+    def keys_in_order(self):
+        return sorted((name, spot) for spot, name in self.names.items())
+
+
+def longest_stretches(net, images):
+    """The rows (road, least, greatest, first, last) of a net of whole places, step by step along each road."""
+    found = []
+    for road, (a, b, length) in enumerate(net.roads):
+        way = [images[net.spot(road, at)] for at in range(length + 1)]
+        cuts = [0]
+        for at in range(1, length):
+            before, here, behind = way[at - 1:at + 2]
+            was_still, is_still = before == here, here == behind
+            if was_still != is_still or (not is_still and before == behind):
+                cuts.append(at)
+        cuts.append(length)
+        for least, greatest in zip(cuts, cuts[1:]):
+            found.append((road, least, greatest, net.names[way[least]], net.names[way[greatest]]))
+    return found
+
+
+def describes(net, images, stretches):
+    """Whether rows (road, least, greatest, first, last) describe the images, place by place."""
+    steps = [(road, at) for road, (a, b, length) in enumerate(net.roads) for at in range(length)]
+    if steps != [(road, at) for road, least, greatest, _, _ in stretches for at in range(least, greatest)]:
+        return False
+    if any(least >= greatest for _, least, greatest, _, _ in stretches):
+        return False
+    spots = {name: spot for spot, name in net.names.items()}
+    for road, least, greatest, first, last in stretches:
+        if first not in spots or last not in spots:
+            return False
+        counts = net.counts_to(spots[last])
+        way = [images[net.spot(road, at)] for at in range(least, greatest + 1)]
+        if way[0] != spots[first] or way[-1] != spots[last]:
+            return False
+        falling = [0 if first == last else greatest - at for at in range(least, greatest + 1)]
+        if [counts[spot] for spot in way] != falling:
+            return False
+    return True
+
+
+def first_apart(net, ours, theirs):
+    """The keys (place, ours, theirs) of the first point that two rows move apart, or None."""
+    for name, spot in net.keys_in_order():
+        if ours[spot] != theirs[spot]:
+            return (name, net.names[ours[spot]], net.names[theirs[spot]])
+    return None
+
+
+class Choices:
+    """Numbers that look random and are the same on every run."""
+
+    def __init__(self, seed):
+        self.state = seed
+
+    def below(self, many):
+        self.state = (self.state * 6364136223846793005 + 1442695040888963407) % 2 ** 64
+        return (self.state >> 33) % many
+
+    def roads(self, crossings, longest):
+        """A tree, as rows (a, b, length), with crossings and roads in no order."""
+        names = self.shuffled(range(crossings))
+        roads = []
+        for at in range(1, crossings):
+            pair = self.shuffled([names[at], names[self.below(at)]])
+            roads.append((*pair, 1 + self.below(longest)))
+        return self.shuffled(roads)
+
+    def marches(self, roads, many, longest):
+        """Marches (road, number, steps) on a tree."""
+        found = []
+        for _ in range(many):
+            road = self.below(len(roads))
+            found.append((road, self.below(roads[road][2] + 1), 1 + self.below(longest)))
+        return found
+
+    def shuffled(self, values):
+        values = list(values)
+        return [values.pop(self.below(len(values))) for _ in range(len(values))]
 
 
 def labelled_trees(crossings):

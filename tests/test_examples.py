@@ -4,7 +4,10 @@ import unittest
 
 from asking import Asking
 
+from onetrain.alike import Alike, held
+from onetrain.doings import doing, is_doing
 from onetrain.errors import BadCount, NoCrossing, RingRoad
+from onetrain.marches import March, Row, after
 from onetrain.places import Place, corner, distance, key, step
 from onetrain.trees import Road, Tree
 
@@ -49,6 +52,39 @@ class PlaceExamples(Asking, unittest.TestCase):
 
     def test_negative_steps(self):
         self.refuses(BadCount, {"what": "steps", "count": -1}, step, fork(), Place(0, 2, 1), Place(1, 2, 1), -1)
+
+
+class MarchExamples(unittest.TestCase):
+    def row(self):
+        return Row(fork(), [March(Place(0, 3, 1), 2)])
+
+    def test_after(self):
+        there = after(self.row(), Place(1, 1, 1))
+        self.assertEqual((there.road, there.number, there.parts), (0, 1, 1))
+
+    def test_doing(self):
+        found = doing(self.row())
+        one = found[0]
+        self.assertEqual((len(found), one.road, one.least, one.greatest), (4, 0, 0, 1))
+        self.assertEqual((one.first.number, one.last.number), (2, 3))
+
+    def test_is_doing(self):
+        row = self.row()
+        self.assertIs(is_doing(row, doing(row)), True)
+
+
+class HeldExamples(unittest.TestCase):
+    def setUp(self):
+        self.line = Tree(2, [Road(0, 1, 3)])
+        self.goal = Place(0, 0, 1)
+
+    def test_alike(self):
+        one = Row(self.line, [March(self.goal, 1), March(self.goal, 1)])
+        self.assertIs(held(one, Row(self.line, [March(self.goal, 2)])) == Alike(), True)
+
+    def test_parted(self):
+        found = held(Row(self.line, [March(self.goal, 1)]), Row(self.line, [March(self.goal, 2)]))
+        self.assertEqual((found.place.number, found.ours.number, found.theirs.number), (2, 1, 0))
 
 
 if __name__ == "__main__":

@@ -29,7 +29,21 @@ INTERFACE = {
         "distance": ["tree", "one", "other"],
         "step": ["tree", "place", "goal", "steps"],
     },
+    "marches": {
+        "March": ["goal", "steps"],
+        "Row": ["tree", "marches"],
+        "after": ["row", "place", "*rounds"],
+    },
+    "doings": {
+        "Stretch": ["road", "least", "greatest", "first", "last"],
+        "doing": ["row"],
+        "is_doing": ["row", "stretches"],
+    },
+    "alike": {"Alike": [], "Parted": ["place", "ours", "theirs"], "held": ["row", "other"]},
 }
+
+# The only parameters with a default value.
+DEFAULTS = {("after", "rounds"): 1}
 
 
 def each_name():
@@ -37,6 +51,10 @@ def each_name():
         module = importlib.import_module("onetrain." + file)
         for name, parameters in names.items():
             yield module, name, parameters
+
+
+def star_if_by_keyword_alone(parameter):
+    return {inspect.Parameter.POSITIONAL_OR_KEYWORD: "", inspect.Parameter.KEYWORD_ONLY: "*"}[parameter.kind]
 
 
 class Interface(unittest.TestCase):
@@ -51,10 +69,10 @@ class Interface(unittest.TestCase):
             if parameters is not None:
                 with self.subTest(name):
                     found = inspect.signature(getattr(module, name)).parameters.values()
-                    self.assertEqual([one.name for one in found], parameters)
+                    self.assertEqual([star_if_by_keyword_alone(one) + one.name for one in found], parameters)
                     for one in found:
-                        self.assertIs(one.kind, inspect.Parameter.POSITIONAL_OR_KEYWORD)
-                        self.assertIs(one.default, inspect.Parameter.empty)
+                        default = DEFAULTS.get((name, one.name), inspect.Parameter.empty)
+                        self.assertEqual(one.default, default)
 
 
 if __name__ == "__main__":

@@ -4,10 +4,10 @@ import unittest
 from fractions import Fraction
 
 from asking import Asking, told
-from oracle import Net, labelled_trees, varied_roads
+from oracle import Choices, Net, labelled_trees, varied_roads
 
 from onetrain.errors import BadCount, NoRoad, OffRoad
-from onetrain.places import Place, distance, key, step
+from onetrain.places import Place, distance, key, shared_steps, step, steps_between
 from onetrain.trees import Road, Tree
 
 FORK = Tree(4, [Road(0, 1, 3), Road(0, 2, 2), Road(3, 0, 4)])
@@ -169,6 +169,32 @@ class Steps(Asking, unittest.TestCase):
         self.refuses(BadCount, {"what": "steps", "count": -1}, step, FORK, fine, fine, -1)
         self.refuses(OffRoad, {"road": 2}, step, FORK, fine, Place(2, 9, 2), 0)
         self.refuses(NoRoad, {"road": -1}, step, FORK, Place(-1, 9, 2), fine, 0)
+
+
+class WholePlaces(unittest.TestCase):
+    """What the rest of the package asks about whole places alone."""
+
+    def test_steps_between(self):
+        self.assertEqual(steps_between(FORK, Place(0, 2, 1), Place(2, 3, 1)), 3)
+        self.assertEqual(steps_between(FORK, Place(2, 4, 1), Place(1, 0, 1)), 0)
+
+    def test_shared_steps(self):
+        start = Place(2, 1, 1)
+        for one, other, expected in [((0, 3), (1, 2), 3), ((0, 3), (0, 1), 4), ((0, 1), (0, 3), 4), ((2, 0), (0, 3), 0),
+                                     ((2, 3), (0, 3), 2), ((2, 1), (0, 3), 0), ((1, 2), (1, 2), 5), ((0, 0), (1, 1), 3)]:
+            self.assertEqual(shared_steps(FORK, start, Place(*one, 1), Place(*other, 1)), expected)
+
+    def test_shared_steps_are_those_that_lead_to_the_same_places(self):
+        for seed in range(20):
+            choices = Choices(seed)
+            roads = choices.roads(6, 4)
+            tree = Tree(6, [Road(*road) for road in roads])
+            start, one, other = [Place(road, number, 1) for road, number, _ in choices.marches(roads, 3, 1)]
+            shared = 0
+            while (shared < min(steps_between(tree, start, one), steps_between(tree, start, other))
+                   and step(tree, start, one, shared + 1) == step(tree, start, other, shared + 1)):
+                shared += 1
+            self.assertEqual(shared_steps(tree, start, one, other), shared)
 
 
 class AgainstCounting(unittest.TestCase):
