@@ -43,6 +43,12 @@ def check_march(tree, number, march):
         raise BadCount("steps", march.steps)
 
 
+def check_round(row):
+    """Raise the error of a row that cannot be repeated, because it has no marches."""
+    if not row.marches:
+        raise BadCount("marches", 0)
+
+
 def keyed(row):
     """Return the marches of a row with keys as goals, so that equal positions are equal goals."""
     return [March(key(row.tree, march.goal), march.steps) for march in row.marches]

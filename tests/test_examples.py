@@ -5,10 +5,13 @@ import unittest
 from asking import Asking
 
 from onetrain.alike import Alike, held
+from onetrain.backs import back
 from onetrain.doings import doing, is_doing
 from onetrain.errors import BadCount, NoCrossing, RingRoad
+from onetrain.fates import far, fate, meet
 from onetrain.marches import March, Row, after
 from onetrain.places import Place, corner, distance, key, step
+from onetrain.trains import is_train, train
 from onetrain.trees import Road, Tree
 
 
@@ -85,6 +88,58 @@ class HeldExamples(unittest.TestCase):
     def test_parted(self):
         found = held(Row(self.line, [March(self.goal, 1)]), Row(self.line, [March(self.goal, 2)]))
         self.assertEqual((found.place.number, found.ours.number, found.theirs.number), (2, 1, 0))
+
+
+class BackExamples(unittest.TestCase):
+    def test_back(self):
+        line = Tree(2, [Road(0, 1, 3)])
+        found = back(Row(line, [March(Place(0, 0, 1), 2)]), Place(0, 0, 1))
+        self.assertEqual((len(found), found[0].least, found[0].greatest, found[0].parts), (1, 0, 2, 1))
+
+
+def shuttle():
+    return Row(fork(), [March(Place(0, 3, 1), 2), March(Place(2, 0, 1), 2)])
+
+
+def turning():
+    star = Tree(4, [Road(0, 1, 10), Road(0, 2, 10), Road(0, 3, 10)])
+    return Row(star, [March(Place(1, 10, 1), 5), March(Place(2, 10, 1), 6), March(Place(0, 10, 1), 5)])
+
+
+class TrainExamples(Asking, unittest.TestCase):
+    def ends(self, found):
+        return (found.one.road, found.one.number, found.other.road, found.other.number, found.is_turned)
+
+    def test_train(self):
+        self.assertEqual(self.ends(train(shuttle())), (0, 1, 2, 0, False))
+
+    def test_a_train_that_is_turned(self):
+        self.assertEqual(self.ends(train(turning())), (0, 0, 0, 4, True))
+
+    def test_no_marches(self):
+        line = Tree(2, [Road(0, 1, 3)])
+        self.refuses(BadCount, {"what": "marches", "count": 0}, train, Row(line, []))
+
+    def test_is_train(self):
+        self.assertIs(is_train(turning(), train(turning())), True)
+
+
+class FateExamples(unittest.TestCase):
+    def test_fate(self):
+        self.assertEqual(fate(shuttle(), Place(0, 3, 1)), (1, 1))
+
+    def test_fate_in_a_train_that_is_turned(self):
+        self.assertEqual(fate(turning(), Place(0, 1, 1)), (0, 2))
+
+    def test_far(self):
+        there = far(shuttle(), Place(0, 3, 1), 10 ** 30)
+        self.assertEqual((there.road, there.number, there.parts), (0, 1, 1))
+
+    def test_meet(self):
+        self.assertEqual(meet(shuttle(), Place(0, 3, 1), Place(0, 2, 1)), 1)
+
+    def test_never(self):
+        self.assertIsNone(meet(shuttle(), Place(0, 1, 1), Place(2, 0, 1)))
 
 
 if __name__ == "__main__":

@@ -40,6 +40,13 @@ INTERFACE = {
         "is_doing": ["row", "stretches"],
     },
     "alike": {"Alike": [], "Parted": ["place", "ours", "theirs"], "held": ["row", "other"]},
+    "backs": {"Piece": ["road", "least", "greatest", "parts"], "back": ["row", "place"]},
+    "trains": {
+        "Train": ["one", "other", "is_turned", "stands"],
+        "train": ["row"],
+        "is_train": ["row", "paper"],
+    },
+    "fates": {"fate": ["row", "place"], "far": ["row", "place", "rounds"], "meet": ["row", "one", "other"]},
 }
 
 # The only parameters with a default value.
