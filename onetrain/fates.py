@@ -58,8 +58,6 @@ def far(row, place, rounds):
 def meet(row, one, other):
     """Return the smallest number of rounds after which two people are at one position, or None."""
     check_round(row)
-    check_place(row.tree, one)
-    check_place(row.tree, other)
     ours = Walk(row, one)
     theirs = Walk(row, other)
     for rounds in range(LONGEST_TAIL + 1):

@@ -134,3 +134,25 @@ def any_rows(seed, wanted, crossings=8, longest=7):
         roads = choices.roads(2 + choices.below(crossings), 1 + choices.below(longest))
         found.append((roads, choices.marches(roads, 1 + choices.below(7), 1 + choices.below(2 * longest))))
     return found
+
+
+def settling_of(images):
+    """The number of rounds after which all points are in the train."""
+    here = set(images)
+    last = set(train_spots(images))
+    rounds = 0
+    while not here <= last:
+        here = {images[spot] for spot in here}
+        rounds += 1
+    return rounds
+
+
+def fewest_of(net, marches):
+    """How many marches it takes at least to move all points to one, by trying all sequences."""
+    moves = [net.images([march]) for march in marches]
+    reached = {frozenset(net.beside)}
+    many = 0
+    while all(len(spots) > 1 for spots in reached):
+        reached = {frozenset(move[spot] for spot in spots) for spots in reached for move in moves}
+        many += 1
+    return many

@@ -6,6 +6,8 @@ from asking import Everything
 
 from onetrain.alike import Alike, Parted
 from onetrain.backs import Piece
+from onetrain.book import Book
+from onetrain.desk import Desk
 from onetrain.doings import Stretch
 from onetrain.errors import OtherTree
 from onetrain.marches import March, Row
@@ -21,7 +23,7 @@ def one_of_each():
     return [
         Road(0, 1, 1), tree, goal, march, Row(tree, []), Row(tree, [march]), Stretch(0, 0, 1, goal, goal),
         Alike(), Parted(goal, goal, goal), Piece(0, 1, 1, 1), Train(goal, goal, False, []),
-        OtherTree(), Everything, None, 0, "", (), [], {}, True,
+        OtherTree(), Book(tree), Desk(tree), Everything, None, 0, "", (), [], {}, True,
     ]
 
 

@@ -6,11 +6,15 @@ from asking import Asking
 
 from onetrain.alike import Alike, held
 from onetrain.backs import back
+from onetrain.book import Book
+from onetrain.desk import Desk
 from onetrain.doings import doing, is_doing
-from onetrain.errors import BadCount, NoCrossing, RingRoad
+from onetrain.errors import BadCount, BadText, NoCrossing, RingRoad
 from onetrain.fates import far, fate, meet
 from onetrain.marches import March, Row, after
 from onetrain.places import Place, corner, distance, key, step
+from onetrain.rowtexts import place_text, read_row, read_tree, row_text, tree_rows
+from onetrain.settling import fewest, settled
 from onetrain.trains import is_train, train
 from onetrain.trees import Road, Tree
 
@@ -140,6 +144,56 @@ class FateExamples(unittest.TestCase):
 
     def test_never(self):
         self.assertIsNone(meet(shuttle(), Place(0, 1, 1), Place(2, 0, 1)))
+
+
+class SettlingExamples(unittest.TestCase):
+    def setUp(self):
+        self.line = Tree(2, [Road(0, 1, 3)])
+
+    def test_settled(self):
+        self.assertEqual(settled(Row(self.line, [March(Place(0, 0, 1), 1)])), 3)
+
+    def test_fewest(self):
+        self.assertEqual(fewest(self.line, [March(Place(0, 0, 1), 2), March(Place(0, 3, 1), 1)]), [0, 0])
+
+
+class BookExamples(unittest.TestCase):
+    def test_book(self):
+        book = Book(Tree(2, [Road(0, 1, 3)]))
+        book.keep("a", [March(Place(0, 0, 1), 2)])
+        book.post(Place(0, 3, 1))
+        book.call("a")
+        person = book.where()[0]
+        self.assertEqual((person.road, person.number, book.many()), (0, 1, 3))
+
+
+class TextExamples(Asking, unittest.TestCase):
+    def setUp(self):
+        self.line = Tree(2, [Road(0, 1, 3)])
+
+    def test_place_text(self):
+        self.assertEqual(place_text(Place(0, 1, 2)), "0:1/2")
+
+    def test_row_text(self):
+        self.assertEqual(row_text(Row(self.line, [March(Place(0, 0, 1), 2)])), "0:0 2")
+
+    def test_read_row(self):
+        self.refuses(BadText, {"place": 1}, read_row, self.line, "0:0 2, x")
+
+    def test_tree_rows(self):
+        self.assertEqual(tree_rows(read_tree(["road 0 1 3"])), ["road 0 1 3"])
+
+
+class DeskExamples(unittest.TestCase):
+    def setUp(self):
+        self.desk = Desk(Tree(2, [Road(0, 1, 3)]))
+
+    def test_after(self):
+        self.desk.tell("keep a 0:0 2")
+        self.assertEqual(self.desk.tell("after a 1 0:3"), ["0:1"])
+
+    def test_drop(self):
+        self.assertEqual(self.desk.tell("drop a"), ["refused norow"])
 
 
 if __name__ == "__main__":

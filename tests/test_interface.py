@@ -3,6 +3,10 @@
 import importlib
 import inspect
 import unittest
+from pathlib import Path
+
+from onetrain.book import Book
+from onetrain.desk import Desk
 
 INTERFACE = {
     "errors": {
@@ -47,6 +51,30 @@ INTERFACE = {
         "is_train": ["row", "paper"],
     },
     "fates": {"fate": ["row", "place"], "far": ["row", "place", "rounds"], "meet": ["row", "one", "other"]},
+    "settling": {"settled": ["row"], "fewest": ["tree", "marches"]},
+    "book": {"Book": ["tree"]},
+    "rowtexts": {
+        "tree_rows": ["tree"],
+        "read_tree": ["rows"],
+        "place_text": ["place"],
+        "row_text": ["row"],
+        "read_row": ["tree", "text"],
+    },
+    "desk": {"Desk": ["tree"]},
+}
+
+METHODS = {
+    "keep": ["name", "marches"],
+    "drop": ["name"],
+    "row": ["name"],
+    "names": [],
+    "post": ["place"],
+    "call": ["name"],
+    "where": [],
+    "claim": ["name", "other"],
+    "claims": [],
+    "many": [],
+    "back": [],
 }
 
 # The only parameters with a default value.
@@ -80,6 +108,23 @@ class Interface(unittest.TestCase):
                     for one in found:
                         default = DEFAULTS.get((name, one.name), inspect.Parameter.empty)
                         self.assertEqual(one.default, default)
+
+    def test_methods(self):
+        for listed, owner in [(METHODS, Book), ({"tell": ["row"]}, Desk)]:
+            for name, parameters in listed.items():
+                with self.subTest(name):
+                    found = inspect.signature(vars(owner)[name]).parameters.values()
+                    self.assertEqual([star_if_by_keyword_alone(one) + one.name for one in found], ["self", *parameters])
+                    self.assertEqual({one.default for one in found}, {inspect.Parameter.empty})
+
+    def test_told_of_each_error(self):
+        for module, name, _ in each_name():
+            if module.__name__ == "onetrain.errors":
+                self.assertEqual(list(inspect.signature(vars(getattr(module, name))["told"]).parameters), ["self"])
+
+    def test_no_file_of_the_interface_is_missing(self):
+        package = Path(importlib.import_module("onetrain").__file__).parent
+        self.assertLessEqual({name + ".py" for name in INTERFACE}, {path.name for path in package.iterdir()})
 
 
 if __name__ == "__main__":

@@ -33,6 +33,12 @@ SPECIAL = set("""
     __invert__ __abs__ __bool__ __contains__ __getitem__ __setitem__
 """.split())
 
+METHODS = set("""
+    append clear copy count endswith extend find get index insert isalnum isalpha isdigit islower isspace isupper items
+    join keys ljust lower lstrip partition pop remove replace reverse rfind rjust rpartition rsplit rstrip setdefault
+    split splitlines startswith strip update upper values zfill bit_length
+""".split())
+
 STATEMENTS = (
     ast.FunctionDef, ast.ClassDef, ast.Import, ast.ImportFrom, ast.Assign, ast.AugAssign, ast.AnnAssign, ast.If,
     ast.While, ast.For, ast.Return, ast.Break, ast.Continue, ast.Pass, ast.Raise, ast.Assert, ast.Delete,
@@ -114,6 +120,26 @@ class Modules(unittest.TestCase):
             if isinstance(node, ast.ImportFrom) and node.module in defined:
                 self.assertLessEqual({name.name for name in node.names}, defined[node.module], where)
 
+    def test_no_two_files_import_from_each_other(self):
+        imported = {
+            "onetrain." + path.stem: [node.module for node in tree.body if isinstance(node, ast.ImportFrom)]
+            for path, tree in parsed()
+        }
+        done = []
+        while len(done) < len(imported):
+            ready = [name for name, needed in imported.items()
+                     if name not in done and not set(needed) & set(imported) - set(done)]
+            self.assertTrue(ready, sorted(set(imported) - set(done)))
+            done.extend(ready)
+
+    def test_tables_contain_no_lists_and_no_dicts(self):
+        for path, tree in parsed():
+            for node in tree.body:
+                if isinstance(node, ast.Assign):
+                    for inner in ast.walk(node.value):
+                        if inner is not node.value:
+                            self.assertNotIsInstance(inner, (ast.List, ast.Dict, ast.Set), (path.name, node.lineno))
+
     def test_module_level(self):
         for path, tree in parsed():
             if path.name != "__main__.py":
@@ -157,6 +183,41 @@ class Functions(unittest.TestCase):
             if isinstance(node, ast.Constant):
                 self.assertNotIsInstance(node.value, (float, complex), where)
 
+    def test_lists_instead_of_generators(self):
+        for where, node in nodes():
+            self.assertNotIsInstance(node, (ast.GeneratorExp, ast.Yield, ast.YieldFrom), where)
+
+    def test_sets_are_sorted_or_measured_at_once(self):
+        for where, node in nodes():
+            for inner in ast.iter_child_nodes(node):
+                if isinstance(inner, (ast.Set, ast.SetComp)):
+                    self.assertIsInstance(node, ast.Call, where)
+                    self.assertIn(node.func.id, ("sorted", "len"), where)
+
+    def test_exponents_are_literals(self):
+        for where, node in nodes():
+            if isinstance(node, ast.BinOp) and isinstance(node.op, ast.Pow):
+                self.assertIsInstance(node.right, ast.Constant, where)
+                self.assertLessEqual(node.right.value, 64, where)
+
+    def test_errors_are_created_where_they_are_raised(self):
+        for where, node in nodes():
+            if isinstance(node, ast.Raise):
+                self.assertIsInstance(node.exc, ast.Call, where)
+                self.assertIsInstance(node.exc.func, ast.Name, where)
+
+    def test_own_errors_alone_are_caught(self):
+        for where, node in nodes():
+            if isinstance(node, ast.ExceptHandler):
+                self.assertEqual(ast.unparse(node.type), "TrainError", where)
+
+    def test_methods_of_builtin_values(self):
+        own = {node.name for _, node in nodes() if isinstance(node, ast.FunctionDef)}
+        for where, node in nodes():
+            if isinstance(node, ast.Call) and isinstance(node.func, ast.Attribute) and node.func.attr not in own:
+                self.assertIn(node.func.attr, METHODS, where)
+                self.assertEqual(node.keywords, [], where)
+
     def test_is_stands_beside_constants_only(self):
         for where, node in nodes():
             if isinstance(node, ast.Compare):
@@ -183,6 +244,8 @@ class Names(unittest.TestCase):
             for name in bound_names(tree):
                 self.assertRegex(name, r"\A(_|_?[A-Za-z][A-Za-z0-9_]*|__[a-z]+__)\Z", path.name)
                 self.assertNotIn(name, NEVER_A_NAME, path.name)
+            attributes = {node.attr for node in ast.walk(tree) if isinstance(node, ast.Attribute)}
+            self.assertFalse(attributes & NEVER_A_NAME, path.name)
 
     def test_no_variable_has_the_name_of_a_class_or_an_import(self):
         for path, tree in parsed():
@@ -197,6 +260,24 @@ class Names(unittest.TestCase):
                     self.assertNotIn(node.arg, taken, path.name)
                 elif isinstance(node, ast.Name) and not isinstance(node.ctx, ast.Load):
                     self.assertNotIn(node.id, taken, path.name)
+
+
+    def test_no_name_is_a_method_and_an_attribute_of_one_class(self):
+        for path, tree in parsed():
+            for node in tree.body:
+                if isinstance(node, ast.ClassDef):
+                    methods = {method.name for method in node.body if isinstance(method, ast.FunctionDef)}
+                    stored = {
+                        inner.attr for inner in ast.walk(node)
+                        if isinstance(inner, ast.Attribute) and isinstance(inner.ctx, ast.Store)
+                    }
+                    self.assertFalse(methods & stored, (path.name, node.name))
+
+    def test_words_that_do_not_occur(self):
+        for path, _ in parsed():
+            text = path.read_text(encoding="utf-8")
+            for word in ("_wall", "_WallAttr", "dataclass", "overload", "contextmanager", "global", "lambda self"):
+                self.assertNotIn(word, text, path.name)
 
 
 class Strings(unittest.TestCase):

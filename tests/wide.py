@@ -1,4 +1,4 @@
-"""Rows at the limit of 400 stretches, found by search, on a star of eight arms of 100 steps.
+"""Rows at the limit of 400 stretches and beyond, found by search, most on a star of eight arms of 100 steps.
 
 Each march is a pair (arm, steps): so many steps towards the tip of that arm.
 """
@@ -25,6 +25,12 @@ TWICE_400 = [
     (3, 4), (0, 2), (1, 8), (0, 21), (7, 2), (6, 9), (6, 1),
 ]
 TWICE_401 = [(4, 13), (4, 1), (2, 13), (4, 8), (1, 9), (5, 7), (2, 20), (3, 9), (3, 10), (0, 3)]
+# On ten arms of 50 steps, these leave a stretch for each of the 500 steps.
+SMALL_STAR = [(0, arm, 50) for arm in range(1, 11)]
+ONE_FOR_EACH_STEP = [
+    (6, 1), (9, 2), (0, 3), (5, 7), (2, 3), (2, 8), (0, 17), (0, 1), (3, 1), (6, 6), (5, 15), (1, 9),
+    (8, 15), (0, 17), (1, 13), (8, 4), (6, 3), (9, 15), (0, 13), (2, 1), (8, 2), (3, 3), (2, 14), (5, 9),
+]
 # Move everyone to the tip of the first arm.
 GATHER = [(0, 100), (0, 100)]
 
